@@ -1,0 +1,183 @@
+"""Whether all roots of a poly are real, and whether none is above a bound."""
+
+from goodsigns.bounds import need_bound, sign_of
+from goodsigns.chains import broken_chain, cofactor
+from goodsigns.checks import are_integers, common_divisor
+from goodsigns.errors import Impossible, TooMany
+from goodsigns.papers import Denial, Paper, is_same_paper
+from goodsigns.polys import lessened, need_poly
+from goodsigns.shifts import shifted
+
+MOST_DEGREE = 24
+
+
+class AllReal(Paper):
+    """All roots are real."""
+
+    def __init__(self):
+        Paper.__init__(self, "allreal")
+
+
+class NotReal(Denial):
+    """Not all roots are real: the form of the power table is below 0 at this row."""
+
+    def __init__(self, row):
+        Denial.__init__(self, "notreal", row)
+        self.row = self.parts[0]
+
+
+class NoneAbove(Paper):
+    """No root is above the bound: none of the shifted numbers is below 0."""
+
+    def __init__(self, numbers):
+        Paper.__init__(self, "noneabove", numbers)
+        self.numbers = self.parts[0]
+
+
+class SomeAbove(Denial):
+    """Some root is above the bound: the number of this power is below 0."""
+
+    def __init__(self, power):
+        Denial.__init__(self, "someabove", power)
+        self.power = self.parts[0]
+
+
+def need_low_poly(poly):
+    """Require a Poly, and of a degree that is not too great."""
+    need_poly(poly, "poly")
+    need_degree(poly)
+
+
+def need_degree(poly):
+    """Require a degree that is not too great."""
+    if poly.degree > MOST_DEGREE:
+        raise TooMany("degree", MOST_DEGREE)
+
+
+def whole_numbers(poly):
+    """The numbers behind the first one of the poly whose roots are those of this one times its first number."""
+    factor = 1
+    found = []
+    for number in poly.numbers[1:]:
+        found.append(number * factor)
+        factor = factor * poly.numbers[0]
+    return found
+
+
+def power_sums(poly):
+    """The sums of the powers, from 0 to 2 n - 2, of all roots times the first number."""
+    numbers = whole_numbers(poly)
+    sums = [poly.degree]
+    for power in range(1, 2 * poly.degree - 1):
+        total = sum([number * sums[power - k] for k, number in enumerate(numbers, start=1) if k < power])
+        if power <= poly.degree:
+            total = total + power * numbers[power - 1]
+        sums.append(-total)
+    return sums
+
+
+def power_table(poly):
+    """The power table of a poly, as a tuple of rows."""
+    need_low_poly(poly)
+    sums = power_sums(poly)
+    places = range(poly.degree)
+    return tuple([tuple([sums[i + j] for j in places]) for i in places])
+
+
+def table_times(table, row):
+    """What a table makes of a row: for each row of the table the sum of the products."""
+    return [sum([mine * its for mine, its in zip(each, row)]) for each in table]
+
+
+def form_at(table, row):
+    """The form of the table at a row."""
+    return sum([mine * its for mine, its in zip(row, table_times(table, row))])
+
+
+def cofactor_row(poly, steps):
+    """The cofactor of a chain as a row of the power table: its numbers by powers of the first number times x."""
+    factor = 1
+    found = []
+    for number in cofactor(steps):
+        found.append(number * factor)
+        factor = factor * poly.numbers[0]
+    divisor = common_divisor(found)
+    low = [number // divisor for number in reversed(found)]
+    return low + [0] * (poly.degree - len(low))
+
+
+def first_place(row):
+    """The place of the first number of a row that is not 0."""
+    return [number != 0 for number in row].index(True)
+
+
+def row_below(table, row, place):
+    """A row at which the form is below 0, from one at which it is not above 0.
+
+    The table makes of this one a row that is not 0 at the place.
+    """
+    if form_at(table, row) < 0:
+        return row
+    slope = table_times(table, row)[place]
+    share = max(0, table[place][place] // (2 * abs(slope)) + 1)
+    if slope > 0:
+        share = -share
+    found = [share * number for number in row]
+    found[place] += 1
+    return found
+
+
+def all_real(poly):
+    """Whether all roots of a poly are real."""
+    need_low_poly(poly)
+    steps, rest = broken_chain(lessened(poly))
+    if not any(rest):
+        return AllReal()
+    place = len(steps) + first_place(rest)
+    return NotReal(row_below(power_table(poly), cofactor_row(poly, steps), place))
+
+
+def within(poly, bound):
+    """Whether a poly whose roots are all real has none above a bound."""
+    need_bounded(poly, bound)
+    told = all_real(poly)
+    if not told:
+        raise Impossible(told)
+    return told_within(poly, bound)
+
+
+def need_bounded(poly, bound):
+    """Require a Poly, a Bound, and a degree that is not too great."""
+    need_poly(poly, "poly")
+    need_bound(bound, "bound")
+    need_degree(poly)
+
+
+def told_within(poly, bound):
+    """What within tells of a poly whose roots are all real."""
+    numbers = shifted(poly, bound)
+    for at, number in enumerate(numbers):
+        if sign_of(number) < 0:
+            return SomeAbove(poly.degree - at)
+    return NoneAbove(numbers)
+
+
+def shows_all_real(poly, value):
+    """Whether a value is a right paper of all_real."""
+    need_low_poly(poly)
+    if type(value) is NotReal:
+        return is_row_below(poly, value.row)
+    return type(value) is AllReal and bool(all_real(poly))
+
+
+def is_row_below(poly, row):
+    """Whether a value is a row at which the form of the power table is below 0."""
+    if not are_integers(row) or len(row) != poly.degree:
+        return False
+    return form_at(power_table(poly), row) < 0
+
+
+def shows_within(poly, bound, value):
+    """Whether a value is the right paper of within."""
+    need_bounded(poly, bound)
+    return bool(all_real(poly)) and is_same_paper(told_within(poly, bound), value)

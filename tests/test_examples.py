@@ -1,0 +1,99 @@
+"""The examples that the interface gives, run in its order with names kept."""
+
+import unittest
+
+from helpers import every_name, run_examples
+
+CHECKS = """\
+>>> [is_integer(True), is_within(3, None, 3), is_within(3, 4, None), are_integers([1, True]), are_integers(()), is_name("a1"), is_name("1a")]
+[False, True, False, False, True, True, False]
+>>> [common_divisor([-12, 18, 0]), common_divisor([]), whole_root(0), whole_root(24), whole_root(25)]
+[6, 0, 0, 4, 5]
+"""
+
+PAPERS = """\
+>>> note = Paper("note", [1, (2, [3])])
+>>> [note.parts, bool(note), bool(Denial("no")), note == Denial("note", [1, (2, [3])])]
+[((1, (2, (3,))),), True, False, False]
+"""
+
+BOUNDS = """\
+>>> edge, four = Bound(0, 2, 2), Bound(0, 2, 4)
+>>> [str(edge), Bound.read("-3 1 8") == Bound(-3, 1, 8), four == Bound(4, 0, 4), [sign_of(each) for each in (edge, Bound(-3, 1, 8), Bound(-3, 1, 9), Bound(3, -1, 8))]]
+['0 2 2', True, False, [1, -1, 0, 1]]
+>>> [str(each) for each in (added(edge, Bound(1, 0, 7)), multiplied(edge, Bound(1, 3, 2)), multiplied(Bound(3, 0, 5), edge), added(Bound(1, 0, 7), Bound(2, 0, 5)))]
+['1 2 2', '12 2 2', '0 6 2', '3 0 7']
+>>> [at_most(four, Bound(4, 0, 0)), at_most(edge, Bound(3, 0, 0)), at_most(Bound(3, 0, 0), edge), Bound(3, 0, 5) == Bound(3, 0, 7)]
+[True, True, False, False]
+>>> added(edge, Bound(0, 1, 3))
+raises Misfit('under')
+>>> Bound.read("0 2 -2")
+raises BadText(0, 2)
+"""
+
+POLYS = """\
+>>> cube, step = Poly([1, 0, -3, -2]), Poly((1, 1))
+>>> [cube.degree, str(cube), cube.worth(3), times(step, step).numbers, divided(cube, step).numbers, mixed(step, Poly([2, -5]), 3, 1).numbers]
+[3, '1 0 -3 -2', 16, (1, 2, 1), (1, -1, -2), (5, -2)]
+>>> [derived(cube).numbers, lessened(derived(cube)).numbers, in_squares(Poly([1, 0, -4, 0, 2])) == (0, Poly([1, -4, 2])), in_squares(Poly([2, 0, 6, 0]))[1].numbers]
+[(3, 0, -3), (1, 0, -1), True, (2, 6)]
+>>> divided(step, Poly([2]))
+raises Misfit('rest')
+>>> in_squares(cube)
+raises Misfit('even')
+>>> Poly.read("0 1")
+raises BadText(0, 0)
+"""
+
+SHIFTS = """\
+>>> [[str(each) for each in shifted(Poly([1, 0, -2]), Bound(0, 1, 2))], [str(each) for each in shifted(cube, Bound(1, 1, 3))]]
+[['1 0 2', '0 2 2', '0 0 2'], ['1 0 3', '3 3 3', '9 6 3', '5 3 3']]
+"""
+
+REALS = """\
+>>> [power_table(cube), power_table(Poly([2, 3, 0])), power_table(Poly([5]))]
+[((3, 0, 6), (0, 6, 6), (6, 6, 18)), ((2, -3), (-3, 9)), ()]
+>>> plus = Poly([1, 0, 1])
+>>> [all_real(cube) == AllReal(), bool(all_real(plus)), [shows_all_real(plus, NotReal(row)) for row in ([1, 2], [1, 1], [0, 1, 0])], shows_all_real(plus, all_real(plus))]
+[True, False, [True, False, False], True]
+>>> three = Poly([1, -9, 18, -6])
+>>> [[str(each) for each in within(three, Bound(8, 0, 0)).numbers], bool(within(three, Bound(7, 0, 0))), within(three, Bound(6, 0, 0)).power, within(Poly([1, -4, 4]), Bound(0, 0, 0)).power]
+[['1 0 0', '15 0 0', '66 0 0', '74 0 0'], True, 0, 1]
+>>> within(plus, Bound(5, 0, 0))
+raises Impossible
+"""
+
+WEBS = """\
+>>> web = Web(4, [(0, 1), [2, 1], (3, 0)])
+>>> [web.places, web.ties, web.most, web.neighbours(0), str(web), str(Web(2, []))]
+[4, ((0, 1), (0, 3), (1, 2)), 2, (1, 3), '4 : 0 1 0 3 1 2', '2 :']
+>>> [pieces(web), pieces(without(web, [0])), is_joined(web), str(without(web, [0])), two_sides(web).marks]
+[((0, 1, 2, 3),), ((0, 1), (2,)), True, '3 : 0 1', (0, 1, 0, 1)]
+>>> triangle = Web(3, [(0, 1), (0, 2), (1, 2)])
+>>> [bool(two_sides(triangle)), shows_two_sides(triangle, OddRing([2, 0, 1])), shows_two_sides(web, Sides([1, 0, 1, 0])), shows_two_sides(web, Sides((0, 1, 0, 1)))]
+[False, True, False, True]
+>>> Web(3, [(0, 1), (2, 2)])
+raises Misfit('tie')
+>>> Web(3, [(0, 1), (1, 0), (0, 3)])
+raises Twice((0, 1))
+>>> Web.read("4 : 0 1 0 3 0 2")
+raises BadText(0, 7)
+>>> Web.read("4 : 0 1 2")
+raises BadText(0, 5)
+"""
+
+# In the order of the interface, as later examples use names of earlier ones.
+EXAMPLES = [("checks", CHECKS), ("papers", PAPERS), ("bounds", BOUNDS), ("polys", POLYS), ("shifts", SHIFTS), ("reals", REALS), ("webs", WEBS)]
+
+
+class Examples(unittest.TestCase):
+    def test_examples(self):
+        kept = {}
+        for module, text in EXAMPLES:
+            kept.update(every_name("goodsigns." + module))
+            with self.subTest(module=module):
+                self.assertGreater(run_examples(self, text, kept), 0)
+
+
+if __name__ == "__main__":
+    unittest.main()
