@@ -40,10 +40,11 @@ def need_bound(value, part):
 
 
 def common_under(one, other):
-    """The under of the first bound where it tells, otherwise that of the second one."""
+    """The under of the first bound, or of the second one if only this one has a part."""
     if one.under != other.under and one.part != 0 and other.part != 0:
         raise Misfit("under")
-    return one.under if one.part != 0 or other.part == 0 else other.under
+    # If both have a part the unders are equal.
+    return one.under if other.part == 0 else other.under
 
 
 def sign_of_integer(number):

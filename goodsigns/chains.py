@@ -16,8 +16,7 @@ def chain_step(ahead, here, divisor):
 
     It is (lead x + tail) here, less square times the one ahead, by the divisor.
     """
-    first = here[0]
-    second = here[1] if len(here) > 1 else 0
+    first, second = (here + [0])[:2]
     return first * first, first * ahead[0], first * ahead[1] - ahead[0] * second, divisor
 
 

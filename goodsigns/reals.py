@@ -45,11 +45,6 @@ class SomeAbove(Denial):
 def need_low_poly(poly):
     """Require a Poly, and of a degree that is not too great."""
     need_poly(poly, "poly")
-    need_degree(poly)
-
-
-def need_degree(poly):
-    """Require a degree that is not too great."""
     if poly.degree > MOST_DEGREE:
         raise TooMany("degree", MOST_DEGREE)
 
@@ -139,18 +134,17 @@ def all_real(poly):
 
 def within(poly, bound):
     """Whether a poly whose roots are all real has none above a bound."""
-    need_bounded(poly, bound)
-    told = all_real(poly)
+    told = bounded_real(poly, bound)
     if not told:
         raise Impossible(told)
     return told_within(poly, bound)
 
 
-def need_bounded(poly, bound):
-    """Require a Poly, a Bound, and a degree that is not too great."""
+def bounded_real(poly, bound):
+    """Whether all roots are real; too great a degree is told behind what is no Bound."""
     need_poly(poly, "poly")
     need_bound(bound, "bound")
-    need_degree(poly)
+    return all_real(poly)
 
 
 def told_within(poly, bound):
@@ -179,5 +173,4 @@ def is_row_below(poly, row):
 
 def shows_within(poly, bound, value):
     """Whether a value is the right paper of within."""
-    need_bounded(poly, bound)
-    return bool(all_real(poly)) and is_same_paper(told_within(poly, bound), value)
+    return bool(bounded_real(poly, bound)) and is_same_paper(told_within(poly, bound), value)

@@ -125,6 +125,8 @@ class Texts(unittest.TestCase):
             self.assertEqual(str(Bound(*told)), text)
             self.assertEqual(Bound.read(text), Bound(*told))
             self.assertEqual(Bound(0, 0, 0).read(text=text), Bound(*told))
+        for text in ("0 0 0", "-7 -1 0", "0 5 1"):
+            self.assertEqual(str(Bound.read(text)), text)
 
     def test_text_of_long_integers(self):
         for digits in (63, 64, 65, 128, 129, 4299, 6200):

@@ -282,7 +282,8 @@ class Wrong(unittest.TestCase):
         for value in no_kind(Poly):
             check_raises(self, BadPoly("poly"), power_table, value)
             check_raises(self, BadPoly("poly"), all_real, value)
-            check_raises(self, BadPoly("poly"), shows_all_real, value, AllReal())
+            for paper in (value, AllReal(), NotReal([0, 1])):
+                check_raises(self, BadPoly("poly"), shows_all_real, value, paper)
             check_raises(self, BadPoly("poly"), within, value, value)
             check_raises(self, BadPoly("poly"), shows_within, value, value, value)
         for value in no_kind(Bound):
@@ -293,8 +294,9 @@ class Wrong(unittest.TestCase):
         check_raises(self, error, power_table, high)
         check_raises(self, error, all_real, high)
         check_raises(self, error, within, high, bound)
-        check_raises(self, error, shows_all_real, high, None)
-        check_raises(self, error, shows_within, high, bound, None)
+        for paper in (None, AllReal(), NotReal([0] * 25), SomeAbove(0)):
+            check_raises(self, error, shows_all_real, high, paper)
+            check_raises(self, error, shows_within, high, bound, paper)
         # Ahead of Impossible.
         check_raises(self, error, within, Poly([1] + [0] * 24 + [2]), bound)
         self.assertIsNone(raised(within, Poly([1] + [0] * 24), bound))

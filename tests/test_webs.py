@@ -165,7 +165,8 @@ class Pieces(unittest.TestCase):
             for function in (pieces, is_joined, two_sides):
                 check_raises(self, BadWeb("web"), function, value)
             check_raises(self, BadWeb("web"), without, value, value)
-            check_raises(self, BadWeb("web"), shows_two_sides, value, value)
+            for paper in (value, OddRing([0, 1, 2]), Sides([0])):
+                check_raises(self, BadWeb("web"), shows_two_sides, value, paper)
 
 
 class TwoSides(unittest.TestCase):
