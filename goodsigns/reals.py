@@ -49,19 +49,20 @@ def need_low_poly(poly):
         raise TooMany("degree", MOST_DEGREE)
 
 
-def whole_numbers(poly):
-    """The numbers behind the first one of the poly whose roots are those of this one times its first number."""
+def times_powers(numbers, base):
+    """The numbers times 1, the base, its square and so on."""
     factor = 1
     found = []
-    for number in poly.numbers[1:]:
+    for number in numbers:
         found.append(number * factor)
-        factor = factor * poly.numbers[0]
+        factor = factor * base
     return found
 
 
 def power_sums(poly):
     """The sums of the powers, from 0 to 2 n - 2, of all roots times the first number."""
-    numbers = whole_numbers(poly)
+    # These products are the roots of a poly with the first number 1; here are its others.
+    numbers = times_powers(poly.numbers[1:], poly.numbers[0])
     sums = [poly.degree]
     for power in range(1, 2 * poly.degree - 1):
         total = sum([number * sums[power - k] for k, number in enumerate(numbers, start=1) if k < power])
@@ -90,12 +91,9 @@ def form_at(table, row):
 
 
 def cofactor_row(poly, steps):
-    """The cofactor of a chain as a row of the power table: its numbers by powers of the first number times x."""
-    factor = 1
-    found = []
-    for number in cofactor(steps):
-        found.append(number * factor)
-        factor = factor * poly.numbers[0]
+    """The cofactor of a chain, or a multiple, as a row at which the power table has a form."""
+    # In the form x stands with the first number; so each lower power is multiplied by it once more.
+    found = times_powers(cofactor(steps), poly.numbers[0])
     divisor = common_divisor(found)
     low = [number // divisor for number in reversed(found)]
     return low + [0] * (poly.degree - len(low))
@@ -113,6 +111,7 @@ def row_below(table, row, place):
     """
     if form_at(table, row) < 0:
         return row
+    # At 1 at the place alone, and shares of the row, the form changes by twice the slope for each share.
     slope = table_times(table, row)[place]
     share = max(0, table[place][place] // (2 * abs(slope)) + 1)
     if slope > 0:
@@ -128,6 +127,7 @@ def all_real(poly):
     steps, rest = broken_chain(lessened(poly))
     if not any(rest):
         return AllReal()
+    # The lower the degree of the rest, the higher is the first power of x, times the cofactor, that tells of it.
     place = len(steps) + first_place(rest)
     return NotReal(row_below(power_table(poly), cofactor_row(poly, steps), place))
 
