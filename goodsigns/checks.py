@@ -2,7 +2,7 @@
 
 from math import gcd, isqrt
 
-from goodsigns.errors import BadNumber
+from goodsigns.errors import BadNumber, Twice
 
 LETTERS = "abcdefghijklmnopqrstuvwxyz"
 DIGITS = "0123456789"
@@ -50,6 +50,15 @@ def need_integers(value, part):
     if not are_integers(value):
         raise BadNumber(part)
     return tuple(value)
+
+
+def need_unlike(values):
+    """Require that none of some integers equals one ahead of it."""
+    ahead = {}
+    for value in values:
+        if value in ahead:
+            raise Twice(value)
+        ahead[value] = True
 
 
 def common_divisor(values):

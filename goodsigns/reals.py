@@ -6,6 +6,7 @@ from goodsigns.checks import are_integers, common_divisor
 from goodsigns.errors import Impossible, TooMany
 from goodsigns.papers import Denial, Paper, is_same_paper
 from goodsigns.polys import lessened, need_poly
+from goodsigns.rows import product_sum, table_times
 from goodsigns.shifts import shifted
 
 MOST_DEGREE = 24
@@ -80,14 +81,9 @@ def power_table(poly):
     return tuple([tuple([sums[i + j] for j in places]) for i in places])
 
 
-def table_times(table, row):
-    """What a table makes of a row: for each row of the table the sum of the products."""
-    return [sum([mine * its for mine, its in zip(each, row)]) for each in table]
-
-
 def form_at(table, row):
     """The form of the table at a row."""
-    return sum([mine * its for mine, its in zip(row, table_times(table, row))])
+    return product_sum(row, table_times(table, row))
 
 
 def cofactor_row(poly, steps):

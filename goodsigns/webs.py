@@ -1,6 +1,6 @@
 """Webs: places, some of them tied two by two."""
 
-from goodsigns.checks import are_integers, is_row, is_within, need_integer, need_integers
+from goodsigns.checks import are_integers, is_row, is_within, need_integer, need_integers, need_unlike
 from goodsigns.errors import BadWeb, Misfit, NoPlace, Twice
 from goodsigns.forests import forest_of, ring_at
 from goodsigns.papers import Denial, Paper, is_same_paper
@@ -137,9 +137,7 @@ def places_without(web, gone):
     need_integers(gone, "gone")
     for place in gone:
         need_place(web, place)
-    for at, place in enumerate(gone):
-        if place in gone[:at]:
-            raise Twice(place)
+    need_unlike(gone)
     staying = [place for place in range(web.places) if place not in gone]
     if not staying:
         raise Misfit("gone")
@@ -169,7 +167,7 @@ def two_sides(web):
     marks = [steps % 2 for steps in forest.steps]
     for one, other in web.ties:
         if marks[one] == marks[other]:
-            # Tied places are one step apart at most, so these two are reached in equally many.
+            # Tied places are one step apart at most, so these two are reached in equally many: the ring is odd.
             return OddRing(ring_at(forest, one, other))
     return Sides(marks)
 

@@ -1,8 +1,9 @@
 """What several tests share."""
 
 import importlib
+import itertools
 
-from goodsigns.bounds import Bound
+from goodsigns.bounds import Bound, added, multiplied
 from goodsigns.errors import SignsError
 from goodsigns.papers import Denial, Paper
 from goodsigns.polys import Poly
@@ -27,6 +28,139 @@ def no_integer_lists():
     kinds = [each for each in no_integers() if each not in ([], [1], (), (1,)) or isinstance(each, Strange)]
     inside = [[1, each] for each in no_integers()] + [(each, 1) for each in no_integers()]
     return kinds + [0, 1, 7] + inside
+
+
+def ring_of(places, start=0):
+    """The ties of a ring of so many places from a first one on."""
+    return [(start + at, start + (at + 1) % places) for at in range(places)]
+
+
+def drawn_web(draw, places, share):
+    """A web with a drawn share of all ties, told in any order, either place first."""
+    ties = [tie for tie in itertools.combinations(range(places), 2) if draw.random() < share]
+    draw.shuffle(ties)
+    return Web(places, [draw.choice([list, tuple])(draw.choice([tie, tie[::-1]])) for tie in ties])
+
+
+def reached(web, place):
+    """The places to which ties lead from a place, ascending."""
+    found = {place}
+    for _ in range(web.places):
+        found |= {b for a, b in web.ties if a in found} | {a for a, b in web.ties if b in found}
+    return tuple(sorted(found))
+
+
+def row_of(places, start=0):
+    """The ties of a row of so many places from a first one on."""
+    return [(at, at + 1) for at in range(start, start + places - 1)]
+
+
+def bush_of(places, branches):
+    """The ties of a bush: each place but the first has one place below it, none more than so many above it."""
+    return [((at - 1) // branches, at) for at in range(1, places)]
+
+
+def full(places, start=0):
+    """All ties of so many places from a first one on."""
+    return list(itertools.combinations(range(start, start + places), 2))
+
+
+def across(many, others):
+    """All ties between so many places and so many others behind them."""
+    return [(one, many + other) for one in range(many) for other in range(others)]
+
+
+def drawn_tree(draw, places):
+    """A web of one piece without a ring."""
+    names = draw.sample(range(places), places)
+    return Web(places, [(names[at], names[draw.randrange(at)]) for at in range(1, places)])
+
+
+def rings_of(web):
+    """All rings of a web, each told once: from its least place, the lesser of its neighbours there next."""
+    found, rows = [], [(place,) for place in range(web.places)]
+    while rows:
+        rows = [row + (near,) for row in rows for near in web.neighbours(row[-1]) if near > row[0] and near not in row]
+        found += [row for row in rows if len(row) > 2 and row[0] in web.neighbours(row[-1]) and row[1] < row[-1]]
+    return found
+
+
+def turned_rings(ring):
+    """A ring told from each of its places, either way round."""
+    both = [tuple(ring), tuple(ring)[::-1]]
+    return [row[at:] + row[:at] for row in both for at in range(len(row))]
+
+
+def along(web, signs, ring):
+    """The product of signs along a ring."""
+    told = dict(zip(web.ties, signs))
+    found = 1
+    for one, other in zip(ring, ring[1:] + ring[:1]):
+        found *= told[min(one, other), max(one, other)]
+    return found
+
+
+def numbers_by_traces(table):
+    """The numbers of the poly of a table, by the sums of the integers on the diagonals of its powers."""
+    places = range(len(table))
+    numbers, sums, power = [1], [], [list(row) for row in table]
+    for k in range(1, len(table) + 1):
+        sums.append(sum([power[i][i] for i in places]))
+        total = sum([number * its for number, its in zip(numbers, sums[::-1])])
+        assert total % k == 0
+        numbers.append(-total // k)
+        power = [[sum([row[m] * table[m][j] for m in places]) for j in places] for row in power]
+    return tuple(numbers)
+
+
+def numbers_of_signs(web, signs):
+    """The numbers of the poly of signs, by traces."""
+    told = dict(zip(web.ties, signs))
+    places = range(web.places)
+    return numbers_by_traces([[told.get((min(i, j), max(i, j)), 0) for j in places] for i in places])
+
+
+def mean_numbers_by_signs(web, signs):
+    """The numbers of a mean, by the polys of all signs that are left."""
+    left = list(itertools.product(*[(sign,) if sign else (1, -1) for sign in signs]))
+    sums = [sum(numbers) for numbers in zip(*[numbers_of_signs(web, each) for each in left])]
+    assert all([number % len(left) == 0 for number in sums])
+    return tuple([number // len(left) for number in sums])
+
+
+def all_signs(web, values=(1, -1)):
+    """All rows with one of these values for each tie."""
+    return list(itertools.product(values, repeat=len(web.ties)))
+
+
+def drawn_signs(draw, web, values=(1, -1)):
+    """A row with a drawn value for each tie, as a list or a tuple."""
+    return draw.choice([list, tuple])([draw.choice(values) for _ in web.ties])
+
+
+def drawn_bound(draw, web):
+    """A bound near the greatest roots of a web."""
+    return Bound(draw.randint(-2, web.most), draw.choice((0, 1, 1, -1, 2)), draw.choice((0, 1, 2, 3, 5, 7)))
+
+
+def beside(bound, under, way):
+    """A bound that is just above another one, or just below it: by a high power of the next integer less the root."""
+    step = 1
+    while step * step < under:
+        step += 1
+    little = Bound(1, 0, under)
+    for _ in range(40):
+        little = multiplied(little, Bound(step, -1, under))
+    return added(bound, multiplied(Bound(way, 0, under), little))
+
+
+def no_signs(web, is_free):
+    """Values that are no signs of a web, which has three ties or more."""
+    right = [1 - 2 * (at % 2) for at in range(len(web.ties))]
+    wrong = no_integers() + [2, -2, 3, 10 ** 70] + ([] if is_free else [0])
+    bent = [right[:at] + [value] + right[at + 1:] for at in (0, 1, len(right) - 1) for value in wrong]
+    rows = bent + [right[:-1], right + [1], right + [0], [right], [right] * len(right), {at: 1 for at in range(len(right))}]
+    return no_integers() + [0, 1, 7, "1" * len(right), set(right), iter(right)] + rows + [tuple(row) for row in bent]
 
 
 def no_kind(kind):

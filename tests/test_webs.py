@@ -6,29 +6,10 @@ import unittest
 
 from goodsigns.errors import BadNumber, BadText, BadWeb, Misfit, NoPlace, Twice
 from goodsigns.webs import (OddRing, Sides, Web, is_joined, pieces, shows_two_sides, two_sides, without)
-from helpers import Strange, check_raises, check_same, no_integer_lists, no_integers, no_kind
+from helpers import (Strange, check_raises, check_same, drawn_web, no_integer_lists, no_integers, no_kind, reached,
+                     ring_of)
 
 FULL = Web(60, list(itertools.combinations(range(60), 2)))
-
-
-def ring_of(places, start=0):
-    """The ties of a ring of so many places from a first one on."""
-    return [(start + at, start + (at + 1) % places) for at in range(places)]
-
-
-def drawn_web(draw, places, share):
-    """A web with a drawn share of all ties, told in any order, either place first."""
-    ties = [tie for tie in itertools.combinations(range(places), 2) if draw.random() < share]
-    draw.shuffle(ties)
-    return Web(places, [draw.choice([list, tuple])(draw.choice([tie, tie[::-1]])) for tie in ties])
-
-
-def reached(web, place):
-    """The places to which ties lead from a place, ascending."""
-    found = {place}
-    for _ in range(web.places):
-        found |= {b for a, b in web.ties if a in found} | {a for a, b in web.ties if b in found}
-    return tuple(sorted(found))
 
 
 def markings(web):
