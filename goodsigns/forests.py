@@ -45,9 +45,12 @@ def next_level(web, forest, level):
 
 
 def ring_at(forest, one, other):
-    """The ring of a tie of two places that are reached in equally many steps."""
+    """The ring that a tie closes with the ways by which its two places are reached."""
     left, right = [one], [other]
     while left[-1] != right[-1]:
-        left.append(forest.ahead[left[-1]])
-        right.append(forest.ahead[right[-1]])
+        # The place that is reached in more steps goes back: so the two meet where their ways part.
+        if forest.steps[left[-1]] >= forest.steps[right[-1]]:
+            left.append(forest.ahead[left[-1]])
+        else:
+            right.append(forest.ahead[right[-1]])
     return left + right[-2::-1]

@@ -82,8 +82,101 @@ raises BadText(0, 7)
 raises BadText(0, 5)
 """
 
+TABLES = """\
+>>> [table_poly([[2]]).numbers, table_poly([[1, 2], [2, -3]]).numbers, table_poly([[0, 5, 0], [5, 0, 0], [0, 0, 7]]).numbers]
+[(1, -2), (1, 2, -7), (1, -7, -25, 175)]
+>>> table_poly([[0, 1], [2, 0]])
+raises BadNumber('table')
+"""
+
+SIGNS = """\
+>>> [table_of(triangle, [1, 0, -1]), turned_about(triangle, [1, 0, -1], 0), signs_without(web, [1, -1, -1], [1])]
+[((0, 1, 0), (1, 0, -1), (0, -1, 0)), (-1, 0, -1), (-1,)]
+>>> [sign_poly(triangle, each).numbers for each in ([1, 1, 1], [1, 1, -1], [-1, -1, -1])]
+[(1, 0, -3, -2), (1, 0, -3, 2), (1, 0, -3, 2)]
+>>> square = Web(4, [(0, 1), (1, 2), (2, 3), (0, 3)])
+>>> [sign_poly(square, [1, 1, 1, 1]).numbers, sign_poly(square, [1, 1, -1, 1]).numbers, sign_poly(web, [1, -1, 1]).numbers]
+[(1, 0, -4, 0, 0), (1, 0, -4, 0, 4), (1, 0, -3, 0, 1)]
+>>> sign_poly(triangle, [1, 0, -1])
+raises BadSigns('signs')
+"""
+
+PAIRINGS = """\
+>>> hall = Web(6, [(0, 3), (0, 4), (0, 5), (1, 3), (1, 4), (1, 5), (2, 3), (2, 4), (2, 5)])
+>>> [pairing_numbers(hall), pairing_numbers(web), pairing_numbers(Web(2, []))]
+[(1, 9, 18, 6), (1, 3, 1), (1,)]
+>>> [pairing_poly(hall).numbers, pairing_poly(triangle).numbers, pairing_poly(square).numbers, pairing_poly(Web(2, [])).numbers]
+[(1, 0, -9, 0, 18, 0, -6), (1, 0, -3, 0), (1, 0, -4, 0, 2), (1, 0, 0)]
+>>> star = Web(17, [(0, place) for place in range(1, 17)])
+>>> pairing_numbers(star)
+(1, 16)
+>>> pairing_poly(Web(17, list(star.ties) + [(1, 2)]))
+raises TooMany('places', 16)
+"""
+
+WAYS = """\
+>>> [ways_from(triangle, 0), str(tree_of_ways(triangle, 0)), len(ways_from(hall, 5)), ways_from(Web(2, []), 1)]
+[((0,), (0, 1), (0, 2), (0, 1, 2), (0, 2, 1)), '5 : 0 1 0 2 1 3 2 4', 46, ((1,),)]
+>>> [left_over(triangle, 0).numbers, left_over(square, 3).numbers, left_over(web, 1).numbers, left_over(hall, 0).degree]
+[(1, 0, -1), (1, 0, -2, 0), (1,), 40]
+>>> left_over(Web(3, [(0, 1)]), 0)
+raises Misfit('web')
+"""
+
+MEANS = """\
+>>> [mean_poly(triangle, signs).numbers for signs in ([0, 0, 0], [1, 0, 1], [1, 1, -1])]
+[(1, 0, -3, 0), (1, 0, -3, 0), (1, 0, -3, 2)]
+>>> [mean_poly(hall, [0] * 9).numbers, mean_poly(hall, [1, 1, 1, 1, 1, 0, 1, 0, 0]).numbers, mean_poly(hall, [1, 1, 1, 1, 1, 0, 1, -1, 0]).numbers]
+[(1, 0, -9, 0, 18, 0, -6), (1, 0, -9, 0, 16, 0, -4), (1, 0, -9, 0, 20, 0, -8)]
+>>> mean_poly(Web(25, []), [])
+raises TooMany('places', 24)
+"""
+
+CHOICES = """\
+>>> small, less = Bound(0, 1, 3), Bound(1, 0, 0)
+>>> [degree_bound(hall) == Bound(0, 2, 2), next_sign(triangle, [1, 0, 1], 1, small), next_sign(triangle, [0, 0, 1], 1, small)]
+[True, -1, 1]
+>>> [good_signs(triangle, small, [2, 0, 1]).signs, good_signs(triangle, less, [0, 1, 2]) == TooGreat(0), any_signs(triangle, less).signs, any_signs(triangle, Bound(0, 0, 0)).powers]
+[(1, -1, 1), True, (1, 1, -1), (1, 1)]
+>>> close = Bound(11, -6, 2)
+>>> [good_signs(hall, degree_bound(hall), order).signs for order in ([0, 1, 2, 3, 4, 5, 6, 7, 8], [8, 7, 6, 5, 4, 3, 2, 1, 0])]
+[(1, 1, 1, 1, 1, 1, 1, 1, -1), (-1, 1, 1, 1, 1, 1, 1, 1, 1)]
+>>> [good_signs(hall, close, [0, 1, 2, 3, 4, 5, 6, 7, 8]).signs, any_signs(hall, close).signs]
+[(1, 1, 1, 1, -1, 1, 1, 1, -1), (1, 1, 1, 1, 1, -1, 1, -1, 1)]
+>>> next_sign(triangle, [1, 0, 1], 0, small)
+raises NoTie(0)
+>>> next_sign(triangle, [0, 0, 0], 0, less)
+raises Misfit('bound')
+>>> good_signs(triangle, small, [0, 2])
+raises Misfit('order')
+"""
+
+CHECK_SIGNS = """\
+>>> [shows_good_signs(triangle, less, value) for value in (GoodSigns([-1, 1, 1]), GoodSigns((1, 1, 1)), TooGreat(0), TooGreat(1))]
+[True, False, True, False]
+>>> [shows_any_signs(triangle, less, value) for value in (GoodSigns((-1, -1, -1)), NoSigns([1, 1]))]
+[True, False]
+"""
+
+COVERS = """\
+>>> [str(cover(triangle, [1, 1, -1])), str(cover(Web(2, [(0, 1)]), [1]))]
+['6 : 0 1 0 2 1 5 2 4 3 4 3 5', '4 : 0 1 2 3']
+>>> [alike_covers(triangle, [1, 1, -1], [-1, 1, 1]).places, bool(alike_covers(triangle, [1, 1, 1], [1, 1, -1]))]
+[(1,), False]
+>>> [shows_alike_covers(triangle, [1, 1, 1], [1, 1, -1], value) for value in (UnlikeCovers([2, 1, 0]), UnlikeCovers([0, 1]), AlikeCovers([]))]
+[True, False, False]
+>>> cover(triangle, [1, 0, 1])
+raises BadSigns('signs')
+>>> alike_covers(triangle, [1, 1, 1], [1, 1])
+raises BadSigns('other')
+>>> cover(Web(31, []), [])
+raises TooMany('places', 60)
+"""
+
 # In the order of the interface, as later examples use names of earlier ones.
-EXAMPLES = [("checks", CHECKS), ("papers", PAPERS), ("bounds", BOUNDS), ("polys", POLYS), ("shifts", SHIFTS), ("reals", REALS), ("webs", WEBS)]
+EXAMPLES = [("checks", CHECKS), ("papers", PAPERS), ("bounds", BOUNDS), ("polys", POLYS), ("shifts", SHIFTS), ("reals", REALS),
+            ("webs", WEBS), ("tables", TABLES), ("signs", SIGNS), ("pairings", PAIRINGS), ("ways", WAYS), ("means", MEANS),
+            ("choices", CHOICES), ("check_signs", CHECK_SIGNS), ("covers", COVERS)]
 
 
 class Examples(unittest.TestCase):
