@@ -12,8 +12,8 @@ from goodsigns.papers import Denial, Paper
 from goodsigns.reals import NoneAbove, SomeAbove, within
 from goodsigns.signs import sign_poly
 from goodsigns.webs import Web
-from helpers import (Strange, across, all_signs, beside, check_raises, check_same, drawn_bound, drawn_web, full, no_integers, no_kind, no_signs, ring_of,
-                     row_of)
+from helpers import (Strange, across, all_signs, beside, check_raises, check_same, drawn_bound, drawn_web, full,
+                     no_integers, no_kind, no_signs, ring_of, row_of)
 
 TRIANGLE, SQUARE, HALL = Web(3, ring_of(3)), Web(4, ring_of(4)), Web(6, across(3, 3))
 ONE, TWO = Bound(1, 0, 0), Bound(2, 0, 0)

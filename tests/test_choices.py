@@ -12,8 +12,8 @@ from goodsigns.papers import Denial, Paper
 from goodsigns.reals import within
 from goodsigns.signs import sign_poly, turned_about
 from goodsigns.webs import Web
-from helpers import (Strange, across, all_signs, beside, check_raises, check_same, drawn_bound, drawn_signs, drawn_web, full, no_integer_lists,
-                     no_integers, no_kind, no_signs, raised, ring_of, row_of)
+from helpers import (Strange, across, all_signs, beside, check_raises, check_same, drawn_bound, drawn_signs, drawn_web,
+                     full, no_integer_lists, no_integers, no_kind, no_signs, raised, ring_of, row_of)
 
 TRIANGLE, SQUARE = Web(3, ring_of(3)), Web(4, ring_of(4))
 HALL = Web(6, across(3, 3))

@@ -10,8 +10,8 @@ from goodsigns.papers import Denial, Paper
 from goodsigns.polys import times
 from goodsigns.signs import sign_poly, turned_about
 from goodsigns.webs import Web, is_joined, two_sides
-from helpers import (Strange, across, all_signs, along, bush_of, check_raises, check_same, drawn_signs, drawn_web, full, no_integers,
-                     no_kind, no_signs, reached, ring_of, rings_of, row_of, turned_rings)
+from helpers import (Strange, across, all_signs, along, bush_of, check_raises, check_same, drawn_signs, drawn_web, full,
+                     no_integers, no_kind, no_signs, reached, ring_of, rings_of, row_of, turned_rings)
 
 TRIANGLE, SQUARE = Web(3, ring_of(3)), Web(4, ring_of(4))
 

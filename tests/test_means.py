@@ -14,8 +14,8 @@ from goodsigns.reals import all_real, within
 from goodsigns.rings import has_more_rings
 from goodsigns.signs import sign_poly, signs_without, turned_about
 from goodsigns.webs import Web, pieces, without
-from helpers import (across, bush_of, check_raises, drawn_signs, drawn_tree, drawn_web, full, mean_numbers_by_signs, no_kind, no_signs,
-                     numbers_of_signs, ring_of, rings_of, row_of)
+from helpers import (across, bush_of, check_raises, drawn_signs, drawn_tree, drawn_web, full, mean_numbers_by_signs,
+                     no_kind, no_signs, numbers_of_signs, ring_of, rings_of, row_of)
 
 # Webs of 9 and of 10 places with so many rings; seven places tied two by two have 1172.
 RINGS_3828 = "9 : 0 2 0 3 0 4 0 6 0 8 1 2 1 3 1 4 1 5 1 7 1 8 2 3 2 4 3 4 3 5 3 6 3 7 4 5 4 6 4 7 4 8 5 6 5 7 6 7 6 8 7 8"

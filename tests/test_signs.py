@@ -9,8 +9,8 @@ from goodsigns.polys import Poly, derived, times
 from goodsigns.reals import all_real
 from goodsigns.signs import need_signs, sign_poly, signs_without, table_of, turned_about
 from goodsigns.webs import Web, pieces, two_sides, without
-from helpers import (Strange, across, all_signs, along, check_raises, check_same, drawn_signs, drawn_web, full, no_integer_lists,
-                     no_integers, no_kind, no_signs, numbers_of_signs, ring_of, rings_of, row_of)
+from helpers import (Strange, across, all_signs, along, check_raises, check_same, drawn_signs, drawn_web, full,
+                     no_integer_lists, no_integers, no_kind, no_signs, numbers_of_signs, ring_of, rings_of, row_of)
 
 SQUARE = Web(4, ring_of(4))
 

@@ -8,7 +8,8 @@ from goodsigns.pairings import pairing_poly
 from goodsigns.polys import Poly, times
 from goodsigns.ways import left_over, tree_of_ways, ways_from
 from goodsigns.webs import Web, is_joined, without
-from helpers import (across, bush_of, check_raises, drawn_tree, drawn_web, full, no_integers, no_kind, raised, ring_of, row_of)
+from helpers import (across, bush_of, check_raises, drawn_tree, drawn_web, full, no_integers, no_kind, raised, ring_of,
+                     row_of)
 
 # From place 0 there are just 60 ways, and 61: the ring has 59, a place tied to the first or to another one has one or two.
 JUST = Web(31, ring_of(30) + [(0, 30)])
