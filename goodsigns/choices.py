@@ -1,14 +1,14 @@
 """Signs that are chosen so that no root is above a bound."""
 
 from goodsigns.bounds import Bound, need_bound
-from goodsigns.checks import is_within, need_integers, need_unlike
+from goodsigns.checks import need_integers, need_unlike
 from goodsigns.errors import Misfit, NoTie, TooMany
 from goodsigns.frames import beyond_frame, first_signs, labels_of, merged
 from goodsigns.means import mean_of, need_few_rings
 from goodsigns.papers import Denial, Paper
 from goodsigns.reals import told_within
 from goodsigns.signs import need_signs, sign_poly
-from goodsigns.webs import need_web
+from goodsigns.webs import need_tie, need_web
 
 MOST_CLASS_PLACES = 12
 MOST_CLASSES = 256
@@ -59,7 +59,7 @@ def with_sign(signs, tie, sign):
 def next_sign(web, signs, tie, bound):
     """1 if the next mean with 1 at a free tie is within the bound, otherwise -1."""
     told = need_signs(web, signs, True)
-    if not is_within(tie, 0, len(told) - 1) or told[tie] != 0:
+    if told[need_tie(web, tie)] != 0:
         raise NoTie(tie)
     need_bound(bound, "bound")
     need_few_rings(web)
@@ -72,8 +72,7 @@ def need_order(web, order):
     """Require a list that has the number of each tie once."""
     need_integers(order, "order")
     for tie in order:
-        if not is_within(tie, 0, len(web.ties) - 1):
-            raise NoTie(tie)
+        need_tie(web, tie)
     need_unlike(order)
     if len(order) < len(web.ties):
         raise Misfit("order")

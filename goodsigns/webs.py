@@ -1,7 +1,7 @@
 """Webs: places, some of them tied two by two."""
 
 from goodsigns.checks import are_integers, is_row, is_within, need_integer, need_integers, need_unlike
-from goodsigns.errors import BadWeb, Misfit, NoPlace, Twice
+from goodsigns.errors import BadWeb, Misfit, NoPlace, NoTie, Twice
 from goodsigns.forests import forest_of, ring_at
 from goodsigns.papers import Denial, Paper, is_same_paper
 from goodsigns.texts import integer_at, items_of, need_item
@@ -115,6 +115,19 @@ def need_among(places, value):
 def need_place(web, value):
     """The value, if it is a place of the web."""
     return need_among(web.places, value)
+
+
+def need_tie(web, value):
+    """The value, if it is the number of a tie of the web."""
+    if not is_within(value, 0, len(web.ties) - 1):
+        raise NoTie(value)
+    return value
+
+
+def need_alike_places(web):
+    """Require that all places have the same number of neighbours, two or more."""
+    if web.most < 2 or not all([len(web.neighbours(place)) == web.most for place in range(web.places)]):
+        raise Misfit("ties")
 
 
 def pieces(web):

@@ -7,6 +7,7 @@ from goodsigns.bounds import Bound, added, multiplied
 from goodsigns.errors import SignsError
 from goodsigns.papers import Denial, Paper
 from goodsigns.polys import Poly
+from goodsigns.reals import within
 from goodsigns.webs import Web
 
 
@@ -70,6 +71,17 @@ def across(many, others):
     return [(one, many + other) for one in range(many) for other in range(others)]
 
 
+def cube():
+    """The ties of a cube."""
+    return [(at, at + step) for step in (1, 2, 4) for at in range(8) if not at & step]
+
+
+def renamed(draw, web):
+    """The web with its places in a drawn order."""
+    names = draw.sample(range(web.places), web.places)
+    return Web(web.places, [(names[one], names[other]) for one, other in web.ties])
+
+
 def drawn_tree(draw, places):
     """A web of one piece without a ring."""
     names = draw.sample(range(places), places)
@@ -113,6 +125,31 @@ def numbers_by_traces(table):
     return tuple(numbers)
 
 
+def product_numbers(one, other):
+    """The numbers of the product of two polynomials."""
+    found = [0] * (len(one) + len(other) - 1)
+    for i, j in itertools.product(range(len(one)), range(len(other))):
+        found[i + j] += one[i] * other[j]
+    return tuple(found)
+
+
+def numbers_of_lot(rows, many, length):
+    """The numbers of the poly of a lot of these rows, by traces."""
+    places = range(length)
+    return numbers_by_traces([[many * sum([row[i] * row[j] for row in rows]) for j in places] for i in places])
+
+
+def numbers_of_dealings(rows, many, dealt):
+    """The numbers of the sum of dealings, by all ways to give each free vector a lot."""
+    sums = None
+    for lots in itertools.product(*[range(many) if lot is None else (lot,) for lot in dealt]):
+        found = (1,)
+        for each in range(many):
+            found = product_numbers(found, numbers_of_lot([row for row, lot in zip(rows, lots) if lot == each], many, len(rows[0])))
+        sums = found if sums is None else [one + other for one, other in zip(sums, found)]
+    return tuple(sums)
+
+
 def numbers_of_signs(web, signs):
     """The numbers of the poly of signs, by traces."""
     told = dict(zip(web.ties, signs))
@@ -138,6 +175,18 @@ def drawn_signs(draw, web, values=(1, -1)):
     return draw.choice([list, tuple])([draw.choice(values) for _ in web.ties])
 
 
+def drawn_vectors(draw, length, many):
+    """Rows of this length, so many, whose tables add up; some are of zeros, some stand twice, some are mirrored."""
+    groups = {1: [[(1,)]], 2: [[(1, 0), (0, 1)], [(3, 4), (4, -3)], [(2, -1), (1, 2)]],
+              3: [[(1, 0, 0), (0, 1, 0), (0, 0, 1)], [(1, 2, 2), (2, 1, -2), (2, -2, 1)]]}[length]
+    rows = []
+    while len(rows) + length <= many and (not rows or draw.random() < 0.8):
+        times = draw.choice([1, 1, 2, -1, 3, 10 ** 9])
+        rows += [[times * number for number in row] for row in draw.choice(groups)]
+    rows += [[0] * length for _ in range(many - len(rows))]
+    return draw.sample(rows, many)
+
+
 def drawn_bound(draw, web):
     """A bound near the greatest roots of a web."""
     return Bound(draw.randint(-2, web.most), draw.choice((0, 1, 1, -1, 2)), draw.choice((0, 1, 2, 3, 5, 7)))
@@ -152,6 +201,19 @@ def beside(bound, under, way):
     for _ in range(40):
         little = multiplied(little, Bound(step, -1, under))
     return added(bound, multiplied(Bound(way, 0, under), little))
+
+
+def bounds_about(poly):
+    """A bound just below the greatest root of a poly whose roots are all real, and one just above it."""
+    far = 10 ** 6
+    least, most = 0, 4 * far * far
+    assert not within(poly, Bound(-far, 1, least))
+    while not within(poly, Bound(-far, 1, most)):
+        most = 4 * most
+    while most - least > 1:
+        middle = (least + most) // 2
+        least, most = (least, middle) if within(poly, Bound(-far, 1, middle)) else (middle, most)
+    return Bound(-far, 1, least), Bound(-far, 1, most)
 
 
 def no_signs(web, is_free):

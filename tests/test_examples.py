@@ -173,10 +173,73 @@ raises BadSigns('other')
 raises TooMany('places', 60)
 """
 
+TOWERS = """\
+>>> tower(square, 2, Bound(-12, 1, 195)).signs
+((1, 1, 1, -1), (1, 1, 1, 1, 1, 1, 1, -1))
+>>> tower(square, 2, Bound(-10, 1, 143)) == TowerTooGreat([[1, 1, 1, -1]], 0)
+True
+>>> [tower(hall, 1, Bound(0, 2, 2)).signs, tower(hall, 0, Bound(0, 0, 0)).signs]
+[((1, 1, 1, 1, 1, 1, 1, 1, -1),), ()]
+>>> [shows_tower(hall, 1, Bound(0, 2, 2), value) for value in (Tower([[1, 1, 1, 1, 1, -1, 1, 1, 1]]), Tower([[1] * 9]), TowerTooGreat([], 0))]
+[True, False, False]
+>>> [shows_tower(hall, 1, Bound(0, 1, 6), value) for value in (Tower([[-1, 1, 1, 1, -1, 1, 1, 1, -1]]), TowerTooGreat([], 0))]
+[True, True]
+>>> tower(triangle, 1, Bound(2, 0, 0))
+raises Misfit('sides')
+>>> tower(web, 1, Bound(2, 0, 0))
+raises Misfit('ties')
+>>> tower(hall, 4, Bound(0, 2, 2))
+raises TooMany('places', 24)
+"""
+
+EDGES = """\
+>>> ring = [(0, 1), (1, 2), (2, 3), (3, 4), (4, 5), (5, 6), (6, 7), (0, 7)]
+>>> wide = Web(16, ring + [(one + 8, other + 8) for one, other in ring] + [(at, at + 8) for at in range(8)])
+>>> [shells(wide, 2, 3), wide.ties[2], wide.ties[10], shells(Web(3, [(0, 2)]), 0, 1)]
+[((0, 8), (1, 7, 9, 15), (2, 6, 10, 14), (3, 5, 11, 13)), (0, 8), (4, 12), ((0, 2), ())]
+>>> signs = turned_about(wide, [1] * 24, 8)
+>>> weights = far_weights(wide, signs, 2, 10, 1)
+>>> [[str(each) for each in weights.first[:3]], str(weights.first[8]), [place for place in range(16) if sign_of(weights.second[place]) != 0]]
+[['0 1 2', '1 0 2', '0 0 2'], '0 -1 2', [3, 4, 5, 11, 12, 13]]
+>>> [str(second_bound(3, 1)), shows_weights(wide, signs, 2, second_bound(3, 1), weights), shows_weights(wide, signs, 1, Bound(1, 1, 2), weights), shows_weights(wide, signs, 1, Bound(0, 2, 2), weights)]
+['1 2 2', True, True, False]
+>>> far_weights(wide, signs, 2, 10, 2)
+raises Misfit('far')
+>>> far_weights(wide, [-1] + [1] * 23, 2, 10, 1)
+raises Misfit('ring')
+"""
+
+VECTORS = """\
+>>> cross, three = Vectors([[1, 0], [0, 1], [1, 0], [0, 1]]), Vectors([[1], [-2], [2]])
+>>> [cross.total, cross.longest, three.total, three.longest, str(cross), Vectors.read("1 : 1 -2 2") == three]
+[2, 1, 9, 4, '2 : 1 0 0 1 1 0 0 1', True]
+>>> Vectors([[1, 1], [1, -1], [1, 0]])
+raises Misfit('sum')
+>>> Vectors.read("2 : 1 0 0")
+raises BadText(0, 5)
+>>> Vectors.read("2 : 1 1")
+raises BadText(0, 3)
+"""
+
+LOTS = """\
+>>> [lots_bound(cross, 2), lots_bound(three, 3)] == [Bound(4, 2, 4), Bound(21, 2, 108)]
+True
+>>> [lot_poly(cross, 2, [0, 0, None, 1], lot).numbers for lot in (0, 1)]
+[(1, -4, 4), (1, -2, 0)]
+>>> [lots_poly(cross, 2, [None] * 4).numbers, lots_poly(cross, 2, [0, 0, 1, 1]).numbers]
+[(16, -128, 320, -256, 64), (1, -8, 24, -32, 16)]
+>>> edge = Bound(2, 1, 2)
+>>> [next_lot(cross, 2, [0, 0, None, None], 2, edge), even_lots(cross, 2, edge, [0, 1, 2, 3]).dealt, even_lots(cross, 2, edge, [3, 0, 2, 1]).dealt]
+[1, (0, 0, 1, 1), (0, 1, 1, 0)]
+>>> even_lots(cross, 2, Bound(3, 0, 0), [0, 1, 2, 3]) == LotsTooGreat(1)
+True
+"""
+
 # In the order of the interface, as later examples use names of earlier ones.
 EXAMPLES = [("checks", CHECKS), ("papers", PAPERS), ("bounds", BOUNDS), ("polys", POLYS), ("shifts", SHIFTS), ("reals", REALS),
             ("webs", WEBS), ("tables", TABLES), ("signs", SIGNS), ("pairings", PAIRINGS), ("ways", WAYS), ("means", MEANS),
-            ("choices", CHOICES), ("check_signs", CHECK_SIGNS), ("covers", COVERS)]
+            ("choices", CHOICES), ("check_signs", CHECK_SIGNS), ("covers", COVERS), ("towers", TOWERS),
+            ("edges", EDGES), ("vectors", VECTORS), ("lots", LOTS)]
 
 
 class Examples(unittest.TestCase):

@@ -3,14 +3,23 @@
 import unittest
 
 from goodsigns.bounds import Bound
+from goodsigns.choices import GoodSigns, NoSigns, TooGreat
+from goodsigns.covers import AlikeCovers, UnlikeCovers
+from goodsigns.edges import Weights
+from goodsigns.lots import Lots, LotsTooGreat
 from goodsigns.papers import Denial, Paper, fixed, is_same_paper
 from goodsigns.reals import AllReal, NoneAbove, NotReal, SomeAbove
+from goodsigns.towers import Tower, TowerTooGreat
 from goodsigns.webs import OddRing, Sides
 from helpers import Strange, check_same, no_integers
 
 # Each class of papers with its word and the names of its parts.
-PAPERS = [(AllReal, "allreal", []), (NoneAbove, "noneabove", ["numbers"]), (Sides, "sides", ["marks"])]
-DENIALS = [(NotReal, "notreal", ["row"]), (SomeAbove, "someabove", ["power"]), (OddRing, "oddring", ["ring"])]
+PAPERS = [(AllReal, "allreal", []), (NoneAbove, "noneabove", ["numbers"]), (Sides, "sides", ["marks"]),
+          (GoodSigns, "goodsigns", ["signs"]), (AlikeCovers, "alikecovers", ["places"]), (Tower, "tower", ["signs"]),
+          (Weights, "weights", ["first", "second"]), (Lots, "lots", ["dealt"])]
+DENIALS = [(NotReal, "notreal", ["row"]), (SomeAbove, "someabove", ["power"]), (OddRing, "oddring", ["ring"]),
+           (TooGreat, "toogreat", ["power"]), (NoSigns, "nosigns", ["powers"]), (UnlikeCovers, "unlikecovers", ["ring"]),
+           (TowerTooGreat, "towertoogreat", ["signs", "power"]), (LotsTooGreat, "lotstoogreat", ["power"])]
 
 
 def deep(make, levels):
