@@ -32,18 +32,23 @@ class LotsTooGreat(Denial):
         self.power = self.parts[0]
 
 
-def need_vectors_and_many(vectors, many):
+def need_lots(vectors, many):
     """Require Vectors, and a number of lots."""
     need_vectors(vectors, "vectors")
     need_integer(many, "many", FEWEST_LOTS, MOST_LOTS)
 
 
+def are_lots(vectors, many, value):
+    """Whether a value is a list that has, for each vector, the number of a lot or None."""
+    if not is_row(value) or len(value) != len(vectors.rows):
+        return False
+    return all([lot is None or is_within(lot, 0, many - 1) for lot in value])
+
+
 def need_dealt(vectors, many, dealt):
-    """The lots as a tuple, if each vector has the number of one or None."""
-    need_vectors_and_many(vectors, many)
-    if not is_row(dealt) or len(dealt) != len(vectors.rows):
-        raise BadLots("dealt")
-    if not all([lot is None or is_within(lot, 0, many - 1) for lot in dealt]):
+    """The lots of the vectors, as a tuple."""
+    need_lots(vectors, many)
+    if not are_lots(vectors, many, dealt):
         raise BadLots("dealt")
     return tuple(dealt)
 
@@ -56,7 +61,7 @@ def need_few_vectors(vectors, many):
 
 def lots_bound(vectors, many):
     """A bound that the first sum is within."""
-    need_vectors_and_many(vectors, many)
+    need_lots(vectors, many)
     longest = many * vectors.longest
     return Bound(vectors.total + longest, 2, longest * vectors.total)
 
@@ -157,7 +162,7 @@ def need_order(vectors, order):
 
 def even_lots(vectors, many, bound, order):
     """The lots of vectors that are dealt in an order, each by next_lot, if the first sum is within the bound."""
-    need_vectors_and_many(vectors, many)
+    need_lots(vectors, many)
     need_bound(bound, "bound")
     need_order(vectors, order)
     need_few_vectors(vectors, many)

@@ -150,6 +150,18 @@ def numbers_of_dealings(rows, many, dealt):
     return tuple(sums)
 
 
+def rest_numbers(renamings):
+    """The numbers of the rest poly of a round, divided step by step."""
+    size, many = len(renamings[0]), len(renamings)
+    table = [[sum([each[i] == j for each in renamings]) for j in range(size)] for i in range(size)]
+    square = [[sum([a * b for a, b in zip(one, other)]) for other in table] for one in table]
+    found = []
+    for number in numbers_by_traces(square):
+        found.append(number + (many * many * found[-1] if found else 0))
+    assert found[-1] == 0
+    return tuple(found[:-1])
+
+
 def numbers_of_signs(web, signs):
     """The numbers of the poly of signs, by traces."""
     told = dict(zip(web.ties, signs))

@@ -235,11 +235,74 @@ True
 True
 """
 
+CHECK_LOTS = """\
+>>> [shows_even_lots(cross, 2, Bound(3, 0, 0), value) for value in (Lots((0, 1, 1, 0)), Lots((0, 0, 0, 1)), LotsTooGreat(1), LotsTooGreat(3))]
+[True, False, True, False]
+"""
+
+MEANSUMS = """\
+>>> [ones(0).numbers, ones(3).numbers, mean_sum(Poly([1, -2]), Poly([1, 5])).numbers, mean_sum(Poly([1, 0, -1]), Poly([1, 0, -1])).numbers]
+[(1,), (1, -3, 3, -1), (1, 3), (1, 0, -2)]
+>>> half = Poly([1, -1, 0])
+>>> [mean_sum(half, half).numbers, two_sided_sum(half, half).numbers, two_sided_sum(ones(2), ones(2)).numbers]
+[(2, -4, 1), (4, -8, 1), (1, -4, 3)]
+>>> [mean_sum(ones(3), Poly([1, 0, -1, 0])).numbers, mean_sum(Poly([2, 0, -4]), Poly([3, 0, 0])).numbers]
+[(1, -3, 2, 0), (1, 0, -2)]
+>>> mean_sum(ones(2), ones(3))
+raises Misfit('degree')
+"""
+
+ROUNDS = """\
+>>> both, twice, plain = Round([[0, 1], [1, 0]]), Round([(0, 1), (0, 1)]), Round([[0, 1, 2]])
+>>> [both.table, twice.table, rest_poly(both).numbers, rest_poly(twice).numbers, rest_poly(plain).numbers]
+[((1, 1), (1, 1)), ((2, 0), (0, 2)), (1, 0), (1, -4), (1, -2, 1)]
+>>> [mean_rest(Round([[0, 1]]), 1).numbers, [mean_rest(plain, more).numbers for more in (0, 1, 2)]]
+[(1, -2), [(1, -2, 1), (1, -4, 3), (1, -6, 6)]]
+>>> [str(round_web(Round([[0, 1, 2], [1, 2, 0]]))), round_bound(3) == Bound(8, 0, 0)]
+['6 : 0 3 0 4 1 4 1 5 2 3 2 5', True]
+>>> [next_renaming(Round([[0, 1]]), 1, Bound(whole, 0, 0)) for whole in (2, 4)]
+[(1, 0), (0, 1)]
+>>> [good_round(3, 2, Bound(3, 0, 0)).renamings, good_round(3, 3, Bound(3, 1, 3)).renamings]
+[((0, 1, 2), (1, 2, 0)), ((0, 1, 2), (1, 2, 0), (0, 1, 2))]
+>>> good_round(3, 2, Bound(2, 0, 0)) == RoundTooGreat(0)
+True
+>>> round_web(twice)
+raises Misfit('ties')
+>>> next_renaming(Round([[0, 1]]), 1, Bound(1, 0, 0))
+raises Misfit('bound')
+>>> mean_rest(twice, 4)
+raises TooMany('renamings', 5)
+"""
+
+CHECK_ROUNDS = """\
+>>> [shows_good_round(3, 2, Bound(2, 0, 0), value) for value in (GoodRound([[1, 2, 0], [0, 1, 2]]), GoodRound([[0, 1, 2], [0, 2, 1]]), RoundTooGreat(0), RoundTooGreat(1))]
+[True, False, True, False]
+>>> [shows_good_round(3, 2, Bound(3, 0, 0), RoundTooGreat(0)), shows_good_round(1, 1, Bound(-1, 0, 0), GoodRound([[0]]))]
+[False, True]
+"""
+
+DESK = """\
+>>> desk = Desk()
+>>> [desk.tell("keep two bound 0 2 2"), desk.tell("keep hall web 6 : 0 3 0 4 0 5 1 3 1 4 1 5 2 3 2 4 2 5"), desk.tell("pair means hall"), desk.tell("within means two")]
+['kept', 'kept', '1 0 -9 0 18 0 -6', 'none']
+>>> [desk.tell("keep less bound 0 1 6"), desk.tell("within means less"), desk.tell("sign tower hall less"), desk.names()]
+['kept', 'above 0', 'toogreat 0', ('hall', 'less', 'means', 'two')]
+>>> desk.back()
+>>> [desk.names(), desk.done()[-1]]
+[('hall', 'means', 'two'), 'pair means hall']
+>>> desk.tell("pair hall means")
+raises Twice('hall')
+>>> desk.tell("pair more means")
+raises Misfit('web')
+>>> desk.tell("keep hall web 2 : 0 0")
+raises BadText(0, 6)
+"""
+
 # In the order of the interface, as later examples use names of earlier ones.
 EXAMPLES = [("checks", CHECKS), ("papers", PAPERS), ("bounds", BOUNDS), ("polys", POLYS), ("shifts", SHIFTS), ("reals", REALS),
             ("webs", WEBS), ("tables", TABLES), ("signs", SIGNS), ("pairings", PAIRINGS), ("ways", WAYS), ("means", MEANS),
             ("choices", CHOICES), ("check_signs", CHECK_SIGNS), ("covers", COVERS), ("towers", TOWERS),
-            ("edges", EDGES), ("vectors", VECTORS), ("lots", LOTS)]
+            ("edges", EDGES), ("vectors", VECTORS), ("lots", LOTS), ("check_lots", CHECK_LOTS), ("meansums", MEANSUMS), ("rounds", ROUNDS), ("check_rounds", CHECK_ROUNDS), ("desk", DESK)]
 
 
 class Examples(unittest.TestCase):

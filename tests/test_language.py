@@ -20,7 +20,7 @@ METHODS = set("""append clear copy count endswith extend find get index insert i
 LIBRARY = {"math": {"gcd", "lcm", "isqrt", "comb", "perm", "factorial"}, "heapq": {"heappush", "heappop"},
            "itertools": {"product", "combinations", "permutations"}}
 DUNDERS = {"__init__", "__eq__", "__str__", "__repr__", "__len__", "__bool__"}
-NODES = (ast.GeneratorExp, ast.Yield, ast.YieldFrom, ast.Lambda, ast.Try, ast.Global, ast.Nonlocal, ast.Import, ast.With,
+NODES = (ast.GeneratorExp, ast.Yield, ast.YieldFrom, ast.Lambda, ast.Global, ast.Nonlocal, ast.Import, ast.With,
          ast.AsyncFunctionDef, ast.Await, ast.Div, ast.MatMult, ast.NamedExpr, ast.Match, ast.JoinedStr, ast.AnnAssign)
 WORDS = """type typing typing_extensions enum Enum IntEnum StrEnum Flag IntFlag Generic Protocol ABC ABCMeta namedtuple
     NamedTuple TypedDict TYPE_CHECKING abstractmethod register mro elements open input law version_info""".split()
@@ -175,6 +175,14 @@ class Language(unittest.TestCase):
                 self.assertNotIn("%", text)
                 self.assertFalse(set(re.findall(r"\w+", text)) & set(WORDS))
             self.assertFalse(set(bound_names(tree)) & set(WORDS))
+
+    def test_own_errors_alone_are_caught(self):
+        own = {node.name for node in tree_of(FOLDER / "errors.py").body if isinstance(node, ast.ClassDef)}
+        for _, tree in each_tree():
+            for node in ast.walk(tree):
+                if isinstance(node, ast.Try):
+                    self.assertFalse(node.finalbody)
+                    self.assertLessEqual({each.type.id for each in node.handlers}, own)
 
     def test_errors_are_made_on_the_spot(self):
         for _, tree in each_tree():

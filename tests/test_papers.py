@@ -9,6 +9,7 @@ from goodsigns.edges import Weights
 from goodsigns.lots import Lots, LotsTooGreat
 from goodsigns.papers import Denial, Paper, fixed, is_same_paper
 from goodsigns.reals import AllReal, NoneAbove, NotReal, SomeAbove
+from goodsigns.rounds import GoodRound, RoundTooGreat
 from goodsigns.towers import Tower, TowerTooGreat
 from goodsigns.webs import OddRing, Sides
 from helpers import Strange, check_same, no_integers
@@ -16,10 +17,11 @@ from helpers import Strange, check_same, no_integers
 # Each class of papers with its word and the names of its parts.
 PAPERS = [(AllReal, "allreal", []), (NoneAbove, "noneabove", ["numbers"]), (Sides, "sides", ["marks"]),
           (GoodSigns, "goodsigns", ["signs"]), (AlikeCovers, "alikecovers", ["places"]), (Tower, "tower", ["signs"]),
-          (Weights, "weights", ["first", "second"]), (Lots, "lots", ["dealt"])]
+          (Weights, "weights", ["first", "second"]), (Lots, "lots", ["dealt"]), (GoodRound, "goodround", ["renamings"])]
 DENIALS = [(NotReal, "notreal", ["row"]), (SomeAbove, "someabove", ["power"]), (OddRing, "oddring", ["ring"]),
            (TooGreat, "toogreat", ["power"]), (NoSigns, "nosigns", ["powers"]), (UnlikeCovers, "unlikecovers", ["ring"]),
-           (TowerTooGreat, "towertoogreat", ["signs", "power"]), (LotsTooGreat, "lotstoogreat", ["power"])]
+           (TowerTooGreat, "towertoogreat", ["signs", "power"]), (LotsTooGreat, "lotstoogreat", ["power"]),
+           (RoundTooGreat, "roundtoogreat", ["power"])]
 
 
 def deep(make, levels):
