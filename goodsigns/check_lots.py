@@ -1,7 +1,8 @@
 """Which papers of even_lots are right."""
 
 from goodsigns.bounds import need_bound
-from goodsigns.lots import Lots, LotsTooGreat, are_lots, lot_poly, need_few_vectors, need_lots, told_first_sum
+from goodsigns.dealings import spans_of
+from goodsigns.lots import Lots, LotsTooGreat, all_free, are_lots, lot_poly, need_few_vectors, need_lots, told_sum
 from goodsigns.papers import is_same_paper
 from goodsigns.reals import told_within
 
@@ -20,5 +21,5 @@ def shows_even_lots(vectors, many, bound, value):
     need_few_vectors(vectors, many)
     if type(value) is Lots:
         return are_even(vectors, many, bound, value.dealt)
-    told = told_first_sum(vectors, many, bound)
+    told = told_sum(spans_of(vectors.rows), many, all_free(vectors), bound)
     return not told and is_same_paper(LotsTooGreat(told.power), value)

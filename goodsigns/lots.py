@@ -2,9 +2,9 @@
 
 from goodsigns.bounds import Bound, need_bound
 from goodsigns.checks import are_integers, is_row, is_within, need_integer
+from goodsigns.dealings import spans_of, sum_of_dealings
 from goodsigns.errors import BadLots, BadNumber, Misfit, TooMany
 from goodsigns.papers import Denial, Paper
-from goodsigns.polys import mixed, times
 from goodsigns.reals import told_within
 from goodsigns.rows import product_sum
 from goodsigns.tables import table_poly
@@ -79,47 +79,16 @@ def lot_poly(vectors, many, dealt, lot):
     return poly_of_rows(vectors, many, [row for row, its in zip(vectors.rows, told) if its == lot])
 
 
-def polys_with_free(vectors, many, dealt, lot):
-    """The polys of a lot with some of the free vectors put in: those at the bits of the index."""
-    mine = [row for row, its in zip(vectors.rows, dealt) if its == lot]
-    free = [row for row, its in zip(vectors.rows, dealt) if its is None]
-    found = []
-    for mask in range(1 << len(free)):
-        more = [row for at, row in enumerate(free) if mask >> at & 1]
-        found.append(poly_of_rows(vectors, many, mine + more))
-    return found
-
-
-def shared_out(one, other, mask):
-    """The sum, over all ways to share out the bits of a mask, of the products of a poly of one and one of the other."""
-    found = times(one[mask], other[0])
-    part = mask
-    while part > 0:
-        # The next lower integer that has no other bits.
-        part = (part - 1) & mask
-        found = mixed(found, times(one[part], other[mask - part]), 1, 1)
-    return found
-
-
-def sum_of_dealings(vectors, many, dealt):
-    """The sum of dealings, of vectors that are not too many."""
-    sums = polys_with_free(vectors, many, dealt, 0)
-    for lot in range(1, many - 1):
-        polys = polys_with_free(vectors, many, dealt, lot)
-        sums = [shared_out(sums, polys, mask) for mask in range(len(sums))]
-    return shared_out(sums, polys_with_free(vectors, many, dealt, many - 1), len(sums) - 1)
-
-
 def lots_poly(vectors, many, dealt):
     """The sum of dealings from dealt."""
     told = need_dealt(vectors, many, dealt)
     need_few_vectors(vectors, many)
-    return sum_of_dealings(vectors, many, told)
+    return sum_of_dealings(spans_of(vectors.rows), many, told)
 
 
-def is_sum_within(vectors, many, dealt, bound):
-    """Whether the sum of dealings is within a bound."""
-    return bool(told_within(sum_of_dealings(vectors, many, dealt), bound))
+def told_sum(spans, many, dealt, bound):
+    """What within tells of the sum of dealings, of the vectors that have these spans."""
+    return told_within(sum_of_dealings(spans, many, dealt), bound)
 
 
 def with_lot(dealt, number, lot):
@@ -135,23 +104,24 @@ def next_lot(vectors, many, dealt, number, bound):
     if told[number] is not None:
         raise Misfit("number")
     need_few_vectors(vectors, many)
-    if not is_sum_within(vectors, many, told, bound):
+    spans = spans_of(vectors.rows)
+    if not told_sum(spans, many, told, bound):
         raise Misfit("bound")
-    return least_lot(vectors, many, told, number, bound)
+    return least_lot(spans, many, told, number, bound)
 
 
-def least_lot(vectors, many, dealt, number, bound):
+def least_lot(spans, many, dealt, number, bound):
     """What next_lot tells, where the sum of dealings is within the bound."""
     for lot in range(many - 1):
-        if is_sum_within(vectors, many, with_lot(dealt, number, lot), bound):
+        if told_sum(spans, many, with_lot(dealt, number, lot), bound):
             return lot
     # One of the lots leaves the sum within the bound.
     return many - 1
 
 
-def told_first_sum(vectors, many, bound):
-    """What within tells of the first sum."""
-    return told_within(sum_of_dealings(vectors, many, (None,) * len(vectors.rows)), bound)
+def all_free(vectors):
+    """The lots of vectors that are all free."""
+    return (None,) * len(vectors.rows)
 
 
 def need_order(vectors, order):
@@ -166,10 +136,11 @@ def even_lots(vectors, many, bound, order):
     need_bound(bound, "bound")
     need_order(vectors, order)
     need_few_vectors(vectors, many)
-    told = told_first_sum(vectors, many, bound)
+    spans = spans_of(vectors.rows)
+    dealt = all_free(vectors)
+    told = told_sum(spans, many, dealt, bound)
     if not told:
         return LotsTooGreat(told.power)
-    dealt = (None,) * len(vectors.rows)
     for number in order:
-        dealt = with_lot(dealt, number, least_lot(vectors, many, dealt, number, bound))
+        dealt = with_lot(dealt, number, least_lot(spans, many, dealt, number, bound))
     return Lots(dealt)

@@ -6,6 +6,7 @@ import time
 import unittest
 
 from goodsigns.bounds import Bound
+from goodsigns.check_lots import shows_even_lots
 from goodsigns.errors import BadBound, BadLots, BadNumber, BadVectors, Misfit, TooMany
 from goodsigns.lots import Lots, LotsTooGreat, even_lots, lot_poly, lots_bound, lots_poly, next_lot
 from goodsigns.papers import Denial, Paper
@@ -13,7 +14,7 @@ from goodsigns.polys import Poly
 from goodsigns.reals import within
 from goodsigns.vectors import Vectors
 from helpers import (beside, bounds_about, check_raises, check_same, drawn_vectors, no_integer_lists, no_integers, no_kind,
-                     numbers_of_dealings, numbers_of_lot)
+                     numbers_of_dealings, numbers_of_lot, product_numbers)
 
 CROSS = Vectors([[1, 0], [0, 1], [1, 0], [0, 1]])
 NINE = Vectors([[1, 0, 0], [0, 1, 0], [0, 0, 1]] * 3)
@@ -141,6 +142,90 @@ class SumOfDealings(unittest.TestCase):
         for many in (2, 3):
             for dealt in no_dealt(8, many):
                 check_raises(self, BadLots("dealt"), lots_poly, EIGHT, many, dealt)
+
+
+def sum_over_all_ways(vectors, many, dealt):
+    """The products of the lot polys, added up over all ways to give each free vector a lot."""
+    ways = itertools.product(*[range(many) if lot is None else (lot,) for lot in dealt])
+    products = []
+    for way in ways:
+        found = (1,)
+        for lot in range(many):
+            found = product_numbers(found, lot_poly(vectors, many, way, lot).numbers)
+        products.append(found)
+    return tuple([sum(numbers) for numbers in zip(*products)])
+
+
+class AllWays(unittest.TestCase):
+    # Of 1, 2, 3 and 5 vectors; rows of zeros, rows that stand twice, and rows that are neither alike nor upright.
+    ROWS = ([[3]], [[10 ** 64 + 7]], [[2], [2]], [[-5], [0]], [[1, 0], [0, 1]], [[3, 4], [4, -3]], [[1], [-2], [1]], [[0], [0], [7]],
+            [[0, 2], [0, 0], [2, 0]], [[1, 2, 2], [2, 1, -2], [2, -2, 1]], [[2], [2], [0], [-1], [0]], [[1], [2], [3], [4], [5]],
+            [[1, 0], [0, 1], [1, 0], [0, 1], [0, 0]], [[1, 1], [1, -1], [1, 0], [0, 1], [0, 0]], [[0, 0], [3, 4], [3, 4], [-4, 3], [-4, 3]],
+            [[1, 2, 2], [2, 1, -2], [0, 0, 0], [2, -2, 1], [0, 0, 0]], [[1, 1, 1], [1, -1, -1], [0, 0, 0], [-1, 1, -1], [-1, -1, 1]])
+
+    def check_sum(self, rows, many, dealt):
+        """Check a sum of dealings against both sums over all ways."""
+        vectors = Vectors(rows)
+        found = lots_poly(vectors, many, dealt).numbers
+        self.assertEqual(found, sum_over_all_ways(vectors, many, dealt))
+        self.assertEqual(found, numbers_of_dealings(rows, many, dealt))
+        self.assertEqual(found[0], many ** list(dealt).count(None))
+        self.assertEqual(len(found), many * len(rows[0]) + 1)
+
+    def test_every_dealing_of_few_vectors(self):
+        for rows, many in itertools.product([rows for rows in self.ROWS if len(rows) <= 3], (2, 3)):
+            for dealt in itertools.product([None, *range(many)], repeat=len(rows)):
+                self.check_sum(rows, many, dealt)
+
+    def test_five_vectors(self):
+        draw = random.Random(157)
+        for rows, many in itertools.product([rows for rows in self.ROWS if len(rows) == 5], (2, 3)):
+            self.check_sum(rows, many, [None] * 5)
+            for free in (0.8, 0.6, 0.4, 0.2, 0):
+                self.check_sum(rows, many, drawn_dealt(draw, many, 5, free))
+
+    def test_great_integers(self):
+        draw = random.Random(158)
+        for rows in self.ROWS:
+            far = 10 ** 64 - draw.randint(1, 99)
+            great = [[far * number for number in row] for row in rows]
+            for many in (2, 3):
+                self.check_sum(great, many, drawn_dealt(draw, many, len(rows), draw.choice([0.4, 0.8])))
+
+
+class Times(unittest.TestCase):
+    # Thousandths of a second that a call may take.
+    EVEN_SEVEN, SUM_SEVEN, EVEN_NINE, SUM_NINE = 35 / 3, 14 / 3, 30 / 3, 15 / 3
+    # A slow machine is let take longer.
+    ROOM = 1.5
+
+    def check_time(self, most, times, function, *told):
+        """Check what a call takes, in the mean of so many; what else the machine does is not counted."""
+        began = time.process_time()
+        for _ in range(times):
+            function(*told)
+        self.assertLess(1000 * (time.process_time() - began), most * times)
+
+    def test_the_most_vectors(self):
+        seven, bound = Vectors([[1, 0, 0], [0, 1, 0], [0, 0, 1], [1, 0, 0], [0, 1, 0], [0, 0, 1], [0, 0, 0]]), Bound(9, 0, 0)
+        self.check_time(self.ROOM * self.EVEN_SEVEN, 100, even_lots, seven, 3, bound, [0, 1, 2, 3, 4, 5, 6])
+        self.check_time(self.ROOM * self.SUM_SEVEN, 100, lots_poly, seven, 3, [None] * 7)
+        self.check_time(self.ROOM * self.EVEN_NINE, 100, even_lots, NINE, 2, bound, [0, 1, 2, 3, 4, 5, 6, 7, 8])
+        self.check_time(self.ROOM * self.SUM_NINE, 100, lots_poly, NINE, 2, [None] * 9)
+
+    def test_great_integers_in_unlike_rows(self):
+        frame, far = [[1, 2, 2], [2, 1, -2], [2, -2, 1]], 10 ** 64 - 3
+        seven = frame + [[1, 1, 1], [1, -1, -1], [-1, 1, -1], [-1, -1, 1]]
+        nine = frame + [[2, 3, 6], [3, -6, 2], [6, 2, -3], [1, 4, 8], [4, 7, -4], [8, -4, 1]]
+        for rows, many, even, sums in ((seven, 3, self.EVEN_SEVEN, self.SUM_SEVEN), (nine, 2, self.EVEN_NINE, self.SUM_NINE)):
+            vectors = Vectors([[far * number for number in row] for row in rows])
+            free, order, bound = [None] * len(rows), list(range(len(rows))), lots_bound(vectors, many)
+            # Machines are less alike in how fast they multiply great integers.
+            room = 2 * self.ROOM
+            self.check_time(room * sums, 20, lots_poly, vectors, many, free)
+            self.check_time(room * even, 20, even_lots, vectors, many, bound, order)
+            self.check_time(room * even, 20, next_lot, vectors, many, free, 3, bound)
+            self.check_time(room * sums, 20, shows_even_lots, vectors, many, Bound(0, 0, 0), LotsTooGreat(1))
 
 
 class NextLot(unittest.TestCase):
